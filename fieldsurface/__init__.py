@@ -1,0 +1,1 @@
+"""Surfaces through a field of whole numbers."""
