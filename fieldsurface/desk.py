@@ -7,6 +7,10 @@ BEGIN = 0
 FIELD = 1
 CUT = 2
 TRIANGLE = 3
+POINT = 4
+COUNT = 5
+PIECE = 6
+HANGS = 7
 
 
 class UnknownCall(ValueError):
@@ -27,6 +31,17 @@ def answer_call(body, reader):
         return body.cut(reader.take())
     if call == TRIANGLE:
         return body.tell_triangle(reader.take())
+    if call == POINT:
+        x = reader.take()
+        y = reader.take()
+        z = reader.take()
+        return body.tell_point(x, y, z, reader.take())
+    if call == COUNT:
+        return body.count_pieces()
+    if call == PIECE:
+        return body.tell_piece(reader.take())
+    if call == HANGS:
+        return body.tell_hangs(reader.take())
     raise UnknownCall(f"no call has the number {call}")
 
 

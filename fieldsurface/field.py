@@ -3,6 +3,10 @@
 SMALLEST_SIZE = 2
 LARGEST_SIZE = 32
 
+# A direction of 0 leads to where it comes from: that's no way.
+LOWEST_WAY = 1
+HIGHEST_WAY = 7
+
 
 def is_size(size):
     """Tell whether a grid may have so many points along one of its sides."""
@@ -26,6 +30,16 @@ class Field:
     def value_at(self, place):
         """Give the value at a place (x, y, z)."""
         return self.numbers[place[0] + self.nx * (place[1] + self.ny * place[2])]
+
+    def has_place(self, place):
+        """Tell whether a place is one of the grid's points."""
+        return 0 <= place[0] < self.nx and 0 <= place[1] < self.ny and 0 <= place[2] < self.nz
+
+    def has_way(self, start, direction):
+        """Tell whether a way leads from a place in a direction to another grid point."""
+        if not LOWEST_WAY <= direction <= HIGHEST_WAY:
+            return False
+        return self.has_place(start) and self.has_place(step(start, direction))
 
     def cubes(self):
         """List the lowest corners of all cubes, in the order in which their values stand."""

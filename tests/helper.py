@@ -22,6 +22,22 @@ def triangle(k):
     return [3, k]
 
 
+def point(x, y, z, d):
+    return [4, x, y, z, d]
+
+
+def count():
+    return [5]
+
+
+def piece(k):
+    return [6, k]
+
+
+def hangs(k):
+    return [7, k]
+
+
 class Locked(list):
     """A list that fails the test if somebody changes it, even if it's changed back."""
 
@@ -60,15 +76,38 @@ def ask(*calls):
     return parts
 
 
-def whole_surface(nx, ny, nz, values, level):
-    """Ask how many triangles there are and then for each one; 100 calls fit into one list."""
+def ask_all(nx, ny, nz, values, level, asked):
+    """Lay and cut a field and give back the answers to all that's asked of it; 100 calls fit into one list."""
     head = [begin(), field(nx, ny, nz, values), cut(level)]
-    count = ask(*head)[2][0]
     found = []
-    for start in range(0, count, 97):
-        asked = [triangle(k) for k in range(start, min(start + 97, count))]
-        found.extend(ask(*head, *asked)[3:])
+    for start in range(0, len(asked), 97):
+        found.extend(ask(*head, *asked[start:start + 97])[3:])
     return found
+
+
+def how_many(nx, ny, nz, values, level):
+    """Ask how many triangles and how many pieces there are."""
+    told = ask(begin(), field(nx, ny, nz, values), cut(level), count())
+    return told[2][0], told[3][0]
+
+
+def whole_surface(nx, ny, nz, values, level):
+    """The answers to triangle, for each one that there is."""
+    triangles = how_many(nx, ny, nz, values, level)[0]
+    return ask_all(nx, ny, nz, values, level, [triangle(k) for k in range(triangles)])
+
+
+def all_pieces(nx, ny, nz, values, level):
+    """The answers to piece, for each one that there is."""
+    pieces = how_many(nx, ny, nz, values, level)[1]
+    return ask_all(nx, ny, nz, values, level, [piece(k) for k in range(pieces)])
+
+
+def all_hangs(nx, ny, nz, values, level):
+    """The numbers that hangs answers, for each triangle that there is."""
+    triangles = how_many(nx, ny, nz, values, level)[0]
+    told = ask_all(nx, ny, nz, values, level, [hangs(k) for k in range(triangles)])
+    return [number for row in told for number in row]
 
 
 def pattern_values(pattern, high=1, low=0):
@@ -153,11 +192,73 @@ def expected_surface(nx, ny, nz, values, level):
     return found
 
 
-def mixed_values(count, seed, low, high):
+def points_of(told):
+    """The three points that triangle answered."""
+    return [tuple(told[at:at + 4]) for at in (1, 5, 9)]
+
+
+def ends_of(told_point):
+    """Both grid points of the way on which a point lies."""
+    return tuple(told_point[:3]), place_of(told_point[:3], told_point[3])
+
+
+def on_a_face(sizes, places):
+    """Whether all these places lie on one and the same outer face of the grid."""
+    return any(all(place[axis] == edge for place in places)
+               for axis, size in enumerate(sizes) for edge in (0, size - 1))
+
+
+def expected_groups(rows):
+    """The numbers of triangles that hang together, by joining groups that have a point in common."""
+    groups = []
+    for number, row in enumerate(rows):
+        points = set(points_of(row))
+        touching = [group for group in groups if group[1] & points]
+        groups = [group for group in groups if not group[1] & points]
+        members = {number}.union(*[group[0] for group in touching])
+        groups.append((members, points.union(*[group[1] for group in touching])))
+    return sorted(sorted(members) for members, _ in groups)
+
+
+def expected_piece(rows, members):
+    """The answer to piece for the triangles with these numbers."""
+    sides = {}
+    points = set()
+    for number in members:
+        first, second, third = points_of(rows[number])
+        points.update([first, second, third])
+        for side in ({first, second}, {second, third}, {third, first}):
+            sides.setdefault(frozenset(side), []).append(number)
+    rim = [side for side, holders in sides.items() if len(holders) == 1]
+    return [0, members[0], len(members), len(points), len(sides), len(rim)]
+
+
+def mixed_values(amount, seed, low, high):
     """Values that look mixed up and are the same each time."""
     values = []
     state = seed
-    for _ in range(count):
+    for _ in range(amount):
         state = (state * 1103515245 + 12345) % 2147483648
         values.append(low + (state >> 8) % (high - low + 1))
     return values
+
+
+# Grids of all shapes, small and with as many values as there may be.
+SIZES = [(2, 2, 2), (3, 2, 2), (2, 3, 2), (2, 2, 3), (2, 3, 4), (4, 3, 2), (3, 3, 3), (3, 4, 4), (4, 4, 3), (12, 2, 2),
+         (2, 12, 2), (2, 2, 12), (5, 3, 3)]
+
+
+def mixed_fields():
+    """Fields of all shapes with a level each: sizes, values, level."""
+    for sizes in SIZES:
+        nx, ny, nz = sizes
+        for spread in (1, 3, 100):
+            values = mixed_values(nx * ny * nz, nx * 7 + ny * 77 + nz * 777 + spread, -spread, spread)
+            for level in (0, 1, spread):
+                yield sizes, values, level
+
+
+def drawn_values(sizes, inside, high=1, low=0):
+    """The values of a field that are high at some grid points and low at all others."""
+    nx, ny, nz = sizes
+    return [high if (x, y, z) in inside else low for z in range(nz) for y in range(ny) for x in range(nx)]

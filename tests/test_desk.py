@@ -20,6 +20,18 @@ class TestDesk(unittest.TestCase):
     def test_refusals_are_a_number_alone(self):
         self.assertEqual(answers([0, 1, 1, 2, 2, 0, 2, 5, 3, 0, 0]), [1, 0, 1, -1, 1, -1, 1, -4, 1, 0])
 
+    def test_each_call_by_its_number(self):
+        # One cube with 3 at the grid point 1, 0, 0: triangles 0 and 1, which are one piece.
+        head = [0, 1, 2, 2, 2, 8, 0, 3, 0, 0, 0, 0, 0, 0, 2, 1]
+        told = [1, 0, 1, 0, 1, 2]
+        self.assertEqual(answers(head + [3, 1]), told + [13, 0, 0, 0, 0, 1, 1, 0, 0, 4, 1, 0, 0, 6])
+        self.assertEqual(answers(head + [4, 1, 0, 0, 6]), told + [3, 0, 2, 3])
+        self.assertEqual(answers(head + [5]), told + [1, 1])
+        self.assertEqual(answers(head + [6, 0]), told + [6, 0, 0, 2, 4, 5, 4])
+        self.assertEqual(answers(head + [7, 1]), told + [1, 0])
+        self.assertEqual(answers(head + [4, 0, 0, 0, 1, 5, 6, 1, 7, 2, 5]),
+                         told + [3, 0, 1, 3, 1, 1, 1, -1, 1, -1, 1, 1])
+
     def test_values_that_look_like_calls(self):
         calls = [0, 1, 2, 2, 2, 8, 3, 3, 0, 0, 2, 1, 3, 0, 2, 3, 0]
         self.assertEqual(answers(calls), [1, 0, 1, 0, 1, 10, 1, 0])

@@ -106,3 +106,21 @@ class TestLanguage(unittest.TestCase):
             for node in nodes_of(path, ast.Call):
                 if isinstance(node.func, ast.Attribute):
                     self.assertIn(node.func.attr, methods | set(METHODS))
+
+    def test_names_of_imports_and_classes_are_bound_once(self):
+        for path in FILES:
+            imports = [alias.name for node in nodes_of(path, ast.ImportFrom) for alias in node.names]
+            classes = [node.name for node in nodes_of(path, ast.ClassDef)]
+            bound = bound_names(path) + imports
+            self.assertEqual([name for name in imports + classes if bound.count(name) > 1], [])
+
+    def test_own_methods_and_values_are_called_otherwise_than_pythons(self):
+        known = {name for kind in (str, int, list, tuple, dict, set, bytes) for name in dir(kind)}
+        for path in FILES:
+            own = {name for name in own_methods(path) + stored_attributes(path) if name != "__init__"}
+            self.assertEqual(sorted(own & known), [])
+
+    def test_sets_are_not_walked(self):
+        for path in FILES:
+            self.assertEqual([node.lineno for node in nodes_of(path, ast.Set)], [])
+            self.assertEqual([node.lineno for node in nodes_of(path, ast.Name) if node.id in ("set", "frozenset")], [])

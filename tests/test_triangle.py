@@ -4,12 +4,10 @@ import unittest
 
 from fieldsurface.tetrahedron import is_even
 from tests.helper import (LEAST, MOST, OTHER_TABLE, TETRAHEDRA, TURNED, TURNED_TABLE, ask, begin, cut,
-                          expected_in_tetrahedron, expected_surface, field, mixed_values, pattern_values, triangle,
-                          whole_surface)
+                          ends_of, expected_in_tetrahedron, expected_surface, field, mixed_fields, on_a_face,
+                          pattern_values, points_of, triangle, whole_surface)
 
 CORNER = field(2, 2, 2, [1, 0, 0, 0, 0, 0, 0, 0])
-SIZES = [(2, 2, 2), (3, 2, 2), (2, 3, 2), (2, 2, 3), (2, 3, 4), (4, 3, 2), (3, 4, 4), (12, 2, 2), (2, 12, 2),
-         (2, 2, 12), (5, 3, 3)]
 
 
 def tetrahedron_pattern(tetrahedron, inside, rest):
@@ -18,16 +16,6 @@ def tetrahedron_pattern(tetrahedron, inside, rest):
     if rest:
         pattern += sum(1 << d for d in range(8) if str(d) not in tetrahedron)
     return pattern
-
-
-def ends_of(point):
-    """Both grid points of the way on which a point lies."""
-    x, y, z, d = point
-    return (x, y, z), (x + (d & 1), y + (d >> 1 & 1), z + (d >> 2 & 1))
-
-
-def points_of(told):
-    return [tuple(told[at:at + 4]) for at in (1, 5, 9)]
 
 
 def value_at(sizes, values, place):
@@ -40,12 +28,6 @@ def normal_of(points):
     u = [b - a for a, b in zip(p, q)]
     v = [b - a for a, b in zip(p, r)]
     return [u[1] * v[2] - u[2] * v[1], u[2] * v[0] - u[0] * v[2], u[0] * v[1] - u[1] * v[0]]
-
-
-def on_a_face(sizes, places):
-    """Whether all these places lie on one and the same outer face of the grid."""
-    return any(all(place[axis] == edge for place in places)
-               for axis, size in enumerate(sizes) for edge in (0, size - 1))
 
 
 class TestWrittenOut(unittest.TestCase):
@@ -149,13 +131,9 @@ class TestCases(unittest.TestCase):
 
 class TestWholeSurfaces(unittest.TestCase):
     def check_each(self, check):
-        for sizes in SIZES:
-            nx, ny, nz = sizes
-            for spread in (1, 3, 100):
-                values = mixed_values(nx * ny * nz, nx * 7 + ny * 77 + nz * 777 + spread, -spread, spread)
-                for level in (0, 1):
-                    with self.subTest(sizes=sizes, spread=spread, level=level):
-                        check(sizes, values, level, whole_surface(nx, ny, nz, values, level))
+        for sizes, values, level in mixed_fields():
+            with self.subTest(sizes=sizes, values=values, level=level):
+                check(sizes, values, level, whole_surface(*sizes, values, level))
 
     def test_in_their_order(self):
         def check(sizes, values, level, told):
